@@ -1,0 +1,100 @@
+"""That everything stands where the interface lists it, with its parameters, and depends on nothing else."""
+
+import importlib
+import inspect
+import os
+import subprocess
+import sys
+import unittest
+
+ROOT = os.path.dirname(os.path.dirname(os.path.abspath(__file__)))
+
+FUNCTIONS = {
+    "tokens": ["read_number(text)", "is_name(text)"],
+    "kinds": ["kind_named(name)", "plain_value(kind, word)", "alike(kind, left, right)", "rule_words(rule)",
+              "broken_rule(kind, other)", "under(kind, other)", "sundered(kind, other)"],
+    "witnesses": ["witness(kind, left, right)"],
+    "gates": ["fitting(letters)"],
+    "sessions": ["cut_sessions(kind, letters, *, gap)", "told_sessions(kind, letters, mark, *, gap)",
+                 "joined_sessions(kind, left, right, *, gap)"],
+}
+METHODS = {
+    "kinds": {
+        "Kind": ["keep(self, word)", "plain(self, word)"], "BagKind": ["keep(self, word)"], "SetKind": ["keep(self, word)"],
+        "HeadsKind": ["keep(self, word)"], "FirstKind": ["keep(self, word)"], "TailsKind": ["keep(self, word)"],
+        "LastKind": ["keep(self, word)"], "EndsKind": ["keep(self, word)"],
+    },
+    "tables": {"Table": ["__init__(self, rows)", "rows(self)", "__call__(self, one, other)", "fold(self, word)",
+                         "fault(self, kind)"]},
+    "gates": {"Gate": ["__init__(self)", "lets_in(self, key, time)", "event(self, key, time, value)", "raise_floor(self, time)",
+                       "finish(self)", "take(self, deed)", "letters_of(self, key)", "count_of(self, key)", "mark_of(self, key)",
+                       "known(self)", "late(self)", "twin(self)"]},
+    "boards": {"Board": ["__init__(self)", "take(self, report)", "reports_of(self, key)", "rows(self)", "__iter__(self)",
+                         "__len__(self)", "__contains__(self, report)", "__eq__(self, other)", "twin(self)", "listing(self)"]},
+}
+CLASS_METHODS = {}
+PROPERTIES = {"tables": {"Table": ["size"]}, "gates": {"Gate": ["floor", "finished"]}, "boards": {"Board": ["repeats"]}}
+# The modules in the order of the interface.
+ORDER = ["errors", "tokens", "kinds", "tables", "witnesses", "gates", "sessions", "boards"]
+# What is not in the interface stands ahead of these.
+HELPERS = {"checks": "sessions"}
+
+
+def module(name):
+    return importlib.import_module("movedstates." + name)
+
+
+class InterfaceTest(unittest.TestCase):
+
+    def test_functions(self):
+        for name, signatures in FUNCTIONS.items():
+            for signature in signatures:
+                with self.subTest(f"{name} {signature}"):
+                    word = signature.partition("(")[0]
+                    found = getattr(module(name), word)
+                    self.assertTrue(inspect.isfunction(found))
+                    self.assertEqual(found.__module__, "movedstates." + name)
+                    self.assertEqual(word + str(inspect.signature(found)), signature)
+
+    def test_methods(self):
+        for name, classes in METHODS.items():
+            for word, signatures in classes.items():
+                one = getattr(module(name), word)
+                self.assertEqual(one.__module__, "movedstates." + name)
+                for signature in signatures:
+                    with self.subTest(f"{name} {word} {signature}"):
+                        found = vars(one)[signature.partition("(")[0]]
+                        self.assertTrue(inspect.isfunction(found))
+                        self.assertEqual(found.__name__ + str(inspect.signature(found)), signature)
+
+    def test_class_methods(self):
+        for name, classes in CLASS_METHODS.items():
+            for word, signatures in classes.items():
+                for signature in signatures:
+                    with self.subTest(f"{name} {word} {signature}"):
+                        one = getattr(module(name), word)
+                        method = signature.partition("(")[0]
+                        self.assertIsInstance(vars(one)[method], classmethod)
+                        self.assertEqual(method + str(inspect.signature(getattr(one, method))), signature)
+
+    def test_properties(self):
+        for name, classes in PROPERTIES.items():
+            for word, properties in classes.items():
+                for one in properties:
+                    self.assertIsInstance(vars(getattr(module(name), word))[one], property)
+
+    def test_each_module_can_be_imported_alone_and_needs_only_those_before_it(self):
+        for at, name in enumerate(ORDER):
+            before = ORDER[:at + 1] + [helper for helper, first in HELPERS.items() if first in ORDER[:at + 1]]
+            code = ("import sys\nold = set(sys.modules)\nimport movedstates." + name + "\nnew = set(sys.modules) - old\n"
+                    "print(*sorted(one for one in new if one != 'movedstates'))")
+            done = subprocess.run([sys.executable, "-B", "-c", code], capture_output=True, text=True, cwd=ROOT)
+            self.assertEqual(done.stderr, "")
+            loaded = done.stdout.split()
+            self.assertIn("movedstates." + name, loaded)
+            allowed = ["movedstates." + one for one in before]
+            self.assertEqual([one for one in loaded if one not in allowed], [])
+
+
+if __name__ == "__main__":
+    unittest.main()

@@ -1,0 +1,55 @@
+"""That the program keeps to the rules of ../shared/LANGUAGE.md, as far as tests/language.py knows them."""
+
+import os
+import unittest
+
+from tests.language import breaches
+
+FOLDER = os.path.join(os.path.dirname(os.path.dirname(os.path.abspath(__file__))), "movedstates")
+
+WRONG = [
+    "import os", "from movedstates.one import missing", "from os import path", "x, y = 1, 2", "x = len([])", "print('a')",
+    "def f(x):\n    global y\n    y = x", "def f(x):\n    return x / 2", "def f(x):\n    return 1.5", "def f(id):\n    return id",
+    "def f(x):\n    return {y for y in x}", "def f(x):\n    return set(x)", "def f(x):\n    return any(y for y in x)",
+    "def f(x):\n    y = zip(x, x)\n    return y", "def f(x):\n    return x.sort()", "def f(x):\n    return x is f",
+    "def f(x):\n    try:\n        return x[0]\n    except IndexError:\n        return 1", "def f(x):\n    raise x",
+    "def f(x):\n    return '%s'", "def f(x):\n    return eval(x)", "def f(x):\n    return x.__class__", "def f(x):\n    return 2 ** x",
+    "def f(x, y=[]):\n    return y", "def f(x: int):\n    return x", "@f\ndef g(x):\n    return x", "def f(x):\n    elements = x",
+    "class A:\n    def keep(self):\n        self.keep = 1", "class A:\n    def __iter__(self):\n        return self.rows",
+    "class A:\n    def __hash__(self):\n        return 1", "class A:\n    x = len([])", "def f(x):\n    return x.encode",
+    "def f(x):\n    return '" + "a" * 120 + "'", "def f(x):\n" + "    x = x\n" * 40, "x = 1\nx = 2", "def f(x):\n\treturn x",
+    "def f(x):\n    return x.items()", "def f(x):\n    yield x\n\n\ndef g(x):\n    return f(x)", "def f(x):\n    kind = 'type'",
+]
+
+
+def texts():
+    found = {}
+    for name in sorted(os.listdir(FOLDER)):
+        if name != "__pycache__":
+            with open(os.path.join(FOLDER, name), encoding="utf-8") as file:
+                found[name[:-3] if name.endswith(".py") else name] = file.read()
+    return found
+
+
+class LanguageTest(unittest.TestCase):
+
+    def test_the_program(self):
+        self.assertEqual(breaches(texts()), [])
+
+    def test_the_folder(self):
+        self.assertTrue(all(name == "__pycache__" or name.endswith(".py") for name in os.listdir(FOLDER)))
+        self.assertIn("__init__", texts())
+
+    def test_what_is_wrong_is_found(self):
+        for text in WRONG:
+            with self.subTest(text):
+                self.assertNotEqual(breaches({"one": text + "\n"}), [])
+
+    def test_circles_are_found(self):
+        one, other = "from movedstates.other import f\n\n\ndef g():\n    return f()\n", (
+            "from movedstates.one import g\n\n\ndef f():\n    return g()\n")
+        self.assertNotEqual(breaches({"one": one, "other": other}), [])
+
+
+if __name__ == "__main__":
+    unittest.main()
