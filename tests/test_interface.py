@@ -17,6 +17,15 @@ FUNCTIONS = {
     "gates": ["fitting(letters)"],
     "sessions": ["cut_sessions(kind, letters, *, gap)", "told_sessions(kind, letters, mark, *, gap)",
                  "joined_sessions(kind, left, right, *, gap)"],
+    "tapes": ["write_tape(deeds)", "read_tape(text)"],
+    "plainruns": ["plain_board(kind, deeds, *, gap)"],
+    "rows": ["row_from(kind, entries)", "row_values(row)", "row_holes(row)", "put_in_row(kind, row, number, value)",
+             "joined_rows(kind, left, hole, right)"],
+    "blocks": ["letter_block(kind, number, time, value)", "spread(block, number)", "covers(block, number)", "stretches(block)",
+               "known_numbers(block)", "joined_blocks(kind, left, right)", "blocks_from(kind, letters, *, gap)"],
+    "possibles": ["possible(kind, blocks, *, gap, base=0)", "letters_for(kind, blocks, *, gap)"],
+    "ripening": ["ripe(holding, mark)", "tell(holding, mark)", "rival(kind, letters, mark, *, gap, base=0)"],
+    "partings": ["future(holding, letters, count)", "parting(one, other)"],
 }
 METHODS = {
     "kinds": {
@@ -31,13 +40,21 @@ METHODS = {
                        "known(self)", "late(self)", "twin(self)"]},
     "boards": {"Board": ["__init__(self)", "take(self, report)", "reports_of(self, key)", "rows(self)", "__iter__(self)",
                          "__len__(self)", "__contains__(self, report)", "__eq__(self, other)", "twin(self)", "listing(self)"]},
+    "plainruns": {"PlainRun": ["__init__(self, kind, *, gap)", "twin(self)", "take(self, deed)", "play(self, deeds)"]},
+    "holdings": {"Holding": ["write(self)", "put(self, number, time, value)", "room(self, number)", "missing(self, count)",
+                             "__contains__(self, number)", "__len__(self)", "__iter__(self)", "__eq__(self, other)"]},
 }
-CLASS_METHODS = {}
-PROPERTIES = {"tables": {"Table": ["size"]}, "gates": {"Gate": ["floor", "finished"]}, "boards": {"Board": ["repeats"]}}
+CLASS_METHODS = {
+    "holdings": {"Holding": ["empty(kind, *, gap, base=0)", "of(kind, letters, *, gap, base=0)",
+                             "made(kind, blocks, *, gap, base=0)", "read(text)"]},
+}
+PROPERTIES = {"tables": {"Table": ["size"]}, "gates": {"Gate": ["floor", "finished"]}, "boards": {"Board": ["repeats"]},
+              "holdings": {"Holding": ["top", "size"]}}
 # The modules in the order of the interface.
-ORDER = ["errors", "tokens", "kinds", "tables", "witnesses", "gates", "sessions", "boards"]
+ORDER = ["errors", "tokens", "kinds", "tables", "witnesses", "gates", "sessions", "boards", "tapes", "plainruns", "rows", "blocks",
+         "possibles", "holdings", "ripening", "partings"]
 # What is not in the interface stands ahead of these.
-HELPERS = {"checks": "sessions"}
+HELPERS = {"checks": "sessions", "holdingtexts": "holdings"}
 
 
 def module(name):
