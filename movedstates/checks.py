@@ -1,6 +1,6 @@
 """The checks that come ahead of all others."""
 
-from movedstates.errors import BadGap
+from movedstates.errors import BadGap, OtherHolding
 from movedstates.kinds import kind_named
 
 
@@ -10,3 +10,9 @@ def checked_kind(kind, gap):
     if gap < 0:
         raise BadGap(gap)
     return named
+
+
+def refuse_other(one, other):
+    """Raises OtherHolding if two holdings or heaps differ in kind or gap."""
+    if one.kind != other.kind or one.gap != other.gap:
+        raise OtherHolding()

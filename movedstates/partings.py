@@ -1,6 +1,7 @@
 """Partings: why unequal holdings have different futures."""
 
-from movedstates.errors import OtherHolding, OutOfOrder
+from movedstates.checks import refuse_other
+from movedstates.errors import OutOfOrder
 from movedstates.holdings import outside
 from movedstates.ripening import tell
 from movedstates.rows import row_values
@@ -27,8 +28,7 @@ def put_in_turn(holding, letters):
 
 def parting(one, other):
     """None if the holdings are equal; otherwise letters and a count with different futures."""
-    if one.kind != other.kind or one.gap != other.gap:
-        raise OtherHolding()
+    refuse_other(one, other)
     if one == other:
         return None
     letters = parting_letters(one, other)

@@ -62,3 +62,26 @@ def random_mark(random, letters):
         mark = random.choice((None, (count, floor)))
         if mark_is_true(letters, mark):
             return mark
+
+
+def parts_seen(holding):
+    """All that a holding is made of."""
+    return [holding.kind, holding.gap, holding.base, holding.blocks]
+
+
+class OneTape:
+    """Complete letters, and two lists of some of them, each with a base."""
+
+    def __init__(self, random, *, most=9, values=(5, 6, 7), shares=(0.3, 0.5, 0.8, 1)):
+        self.gap = random.randint(0, 3)
+        self.letters = random_letters(random, most=most, values=values)
+        self.bases = [at for at in range(len(self.letters) + 1) if is_base(self.letters, at, self.gap)]
+        self.one, self.other = [[letter for letter in self.letters if random.random() < random.choice(shares)] for _ in range(2)]
+        self.one_base, self.other_base = random.choice(self.bases), random.choice(self.bases)
+
+    def both(self):
+        """The letters of both lists."""
+        return [letter for letter in self.letters if letter in self.one or letter in self.other]
+
+    def base(self):
+        return max(self.one_base, self.other_base)

@@ -26,6 +26,15 @@ FUNCTIONS = {
     "possibles": ["possible(kind, blocks, *, gap, base=0)", "letters_for(kind, blocks, *, gap)"],
     "ripening": ["ripe(holding, mark)", "tell(holding, mark)", "rival(kind, letters, mark, *, gap, base=0)"],
     "partings": ["future(holding, letters, count)", "parting(one, other)"],
+    "narrowing": ["narrowed(holding, kind)"],
+    "segments": ["joined_stretches(kind, pieces)"],
+    "overlaps": ["common_values(one, other)", "determined(one, other, shared)", "unclear(one, other)"],
+    "unions": ["unite(one, other)", "united(first, *others)"],
+    "splits": ["parts_of(holding)"],
+    "shuffles": ["shuffles(u, v)", "free_shuffles(kind, u, v, *, before=(), after=())",
+                 "free_orders(kind, parcels, *, before=(), after=())"],
+    "repeats": ["free_repeat(kind, parcels, i, j, *, before=(), after=())",
+                "free_loss(kind, parcels, i, *, before=(), after=())"],
 }
 METHODS = {
     "kinds": {
@@ -43,16 +52,19 @@ METHODS = {
     "plainruns": {"PlainRun": ["__init__(self, kind, *, gap)", "twin(self)", "take(self, deed)", "play(self, deeds)"]},
     "holdings": {"Holding": ["write(self)", "put(self, number, time, value)", "room(self, number)", "missing(self, count)",
                              "__contains__(self, number)", "__len__(self)", "__iter__(self)", "__eq__(self, other)"]},
+    "heaps": {"Heap": ["put(self, number, time, value)", "__add__(self, other)", "__eq__(self, other)", "tell(self, mark)"]},
 }
 CLASS_METHODS = {
     "holdings": {"Holding": ["empty(kind, *, gap, base=0)", "of(kind, letters, *, gap, base=0)",
                              "made(kind, blocks, *, gap, base=0)", "read(text)"]},
+    "heaps": {"Heap": ["empty(kind, *, gap)"]},
 }
 PROPERTIES = {"tables": {"Table": ["size"]}, "gates": {"Gate": ["floor", "finished"]}, "boards": {"Board": ["repeats"]},
-              "holdings": {"Holding": ["top", "size"]}}
+              "holdings": {"Holding": ["top", "size"]}, "heaps": {"Heap": ["top", "size", "whole"]}}
 # The modules in the order of the interface.
 ORDER = ["errors", "tokens", "kinds", "tables", "witnesses", "gates", "sessions", "boards", "tapes", "plainruns", "rows", "blocks",
-         "possibles", "holdings", "ripening", "partings"]
+         "possibles", "holdings", "ripening", "partings", "narrowing", "segments", "overlaps", "unions", "splits", "shuffles",
+         "repeats", "heaps"]
 # What is not in the interface stands ahead of these.
 HELPERS = {"checks": "sessions", "holdingtexts": "holdings"}
 
