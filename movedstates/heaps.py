@@ -74,8 +74,8 @@ def clustered(kind, gap, ahead, behind):
     for first, place, block in visited:
         added = (block[2], ()) if place == 0 else ((), block[2])
         if len(clusters) > 0 and first <= clusters[-1][1] + gap:
-            start, last, left, right = clusters[-1]
-            clusters[-1] = (start, max(last, block[1]), left + added[0], right + added[1])
+            start, last, left, right = clusters.pop()
+            clusters.append((start, max(last, block[1]), left + added[0], right + added[1]))
         else:
             clusters.append((first, block[1], added[0], added[1]))
     return tuple([(first, last, named.plain(left + right)) for first, last, left, right in clusters])

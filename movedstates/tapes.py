@@ -1,7 +1,7 @@
 """The text of a tape."""
 
 from movedstates.errors import BadLine, BadToken
-from movedstates.tokens import is_name, read_number
+from movedstates.tokens import is_name, lines_of, read_number
 
 MOST_WORKERS = 6
 
@@ -14,9 +14,7 @@ def write_tape(deeds):
 def read_tape(text):
     """The deeds of the text; BadLine with the number of the first line that is not valid."""
     deeds = []
-    # The empty string has no lines, although split gives one.
-    lines = text.split("\n") if text != "" else []
-    for at, line in enumerate(lines):
+    for at, line in enumerate(lines_of(text)):
         if len(deeds) > 0 and deeds[-1] == ("finish",):
             raise BadLine(at + 1)
         try:

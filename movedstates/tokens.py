@@ -23,6 +23,11 @@ def is_name(text):
     return isinstance(text, str) and 1 <= len(text) <= LONGEST_NAME and consists_of(text, LETTERS)
 
 
+def lines_of(text):
+    """The lines of the text; the empty string has none."""
+    return text.split("\n") if text != "" else []
+
+
 def consists_of(text, signs):
     """Whether every character of the text is one of the signs."""
     return all([sign in signs for sign in text])

@@ -197,7 +197,8 @@ class Reader:
             return
         if isinstance(node.func, ast.Name) and node.func.id == "super":
             above = self.parents[node]
-            if not (isinstance(above, ast.Attribute) and above.attr == "__init__" and isinstance(self.parents[above], ast.Call)):
+            called = isinstance(above, ast.Attribute) and isinstance(self.parents[above], ast.Call) and self.parents[above].func is above
+            if not called or above.attr in DOUBLE - {"__init__"} or node.args or node.keywords:
                 self.say("L5", node, "super")
         if isinstance(node.func, ast.Name) and is_builtin(node.func.id):
             allowed = {"sorted": {"key", "reverse"}, "min": {"key", "default"}, "max": {"key", "default"}, "sum": {"start"},

@@ -35,6 +35,12 @@ FUNCTIONS = {
                  "free_orders(kind, parcels, *, before=(), after=())"],
     "repeats": ["free_repeat(kind, parcels, i, j, *, before=(), after=())",
                 "free_loss(kind, parcels, i, *, before=(), after=())"],
+    "holders": ["present(ranking, yard)", "walk(crew, scheme, ranking, yard)", "holder(crew, scheme, ranking, yard)",
+                "holders(crew, scheme, ranking, yards)"],
+    "verdicts": ["moving(crew, scheme, yards)", "returning(crew, scheme, yards)", "needless(crew, scheme, yards)",
+                 "start_node(yards)", "next_node(crew, scheme, yards, node, worker)", "settled(node)"],
+    "tallies": ["tally(crew, scheme, yards)", "moved_counts(crew, scheme, before, after)"],
+    "messages": ["newer(one, other)", "mark_for(watermark, key)"],
 }
 METHODS = {
     "kinds": {
@@ -53,18 +59,31 @@ METHODS = {
     "holdings": {"Holding": ["write(self)", "put(self, number, time, value)", "room(self, number)", "missing(self, count)",
                              "__contains__(self, number)", "__len__(self)", "__iter__(self)", "__eq__(self, other)"]},
     "heaps": {"Heap": ["put(self, number, time, value)", "__add__(self, other)", "__eq__(self, other)", "tell(self, mark)"]},
+    "crews": {"Crew": ["__init__(self, workers)", "write(self)", "__len__(self)", "__iter__(self)", "__eq__(self, other)",
+                       "name_of(self, worker)", "make_of(self, worker)", "number_of(self, name)"]},
+    "schemes": {"Scheme": ["__init__(self, rules)", "write(self)", "takes(self, make, seen)", "__len__(self)",
+                           "__eq__(self, other)", "__add__(self, other)"]},
+    "verdicts": {"Verdict": ["__bool__(self)"]},
+    "messages": {"Message": ["__init__(self, to, number, yard, body, *, hops=0, cut_number=0)"],
+                 "Routing": ["__init__(self, crew, scheme, rankings)", "holder_of(self, key, yard)"]},
+    "placers": {"Outcome": ["__init__(self)"],
+                "Placer": ["__init__(self, worker, kind, routing, *, gap, yard, sheet=('place', 'forward', False))",
+                           "twin(self)", "is_holder(self, key)", "receive(self, message)"]},
+    "counters": {"Counter": ["__init__(self, worker, kind, routing, *, gap, yard, sheet=('count', 'forward', False))",
+                             "twin(self)", "is_holder(self, key)", "receive(self, message)"]},
 }
 CLASS_METHODS = {
     "holdings": {"Holding": ["empty(kind, *, gap, base=0)", "of(kind, letters, *, gap, base=0)",
                              "made(kind, blocks, *, gap, base=0)", "read(text)"]},
-    "heaps": {"Heap": ["empty(kind, *, gap)"]},
+    "heaps": {"Heap": ["empty(kind, *, gap)"]}, "crews": {"Crew": ["read(text)"]}, "schemes": {"Scheme": ["read(text)"]},
 }
 PROPERTIES = {"tables": {"Table": ["size"]}, "gates": {"Gate": ["floor", "finished"]}, "boards": {"Board": ["repeats"]},
-              "holdings": {"Holding": ["top", "size"]}, "heaps": {"Heap": ["top", "size", "whole"]}}
+              "holdings": {"Holding": ["top", "size"]}, "heaps": {"Heap": ["top", "size", "whole"]},
+              "verdicts": {"Verdict": ["holds"]}}
 # The modules in the order of the interface.
 ORDER = ["errors", "tokens", "kinds", "tables", "witnesses", "gates", "sessions", "boards", "tapes", "plainruns", "rows", "blocks",
          "possibles", "holdings", "ripening", "partings", "narrowing", "segments", "overlaps", "unions", "splits", "shuffles",
-         "repeats", "heaps"]
+         "repeats", "heaps", "crews", "schemes", "holders", "verdicts", "tallies", "messages", "placers", "counters"]
 # What is not in the interface stands ahead of these.
 HELPERS = {"checks": "sessions", "holdingtexts": "holdings"}
 

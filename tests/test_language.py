@@ -4,6 +4,7 @@ import os
 import unittest
 
 from tests.language import breaches
+from tests.purity import changes
 
 FOLDER = os.path.join(os.path.dirname(os.path.dirname(os.path.abspath(__file__))), "movedstates")
 
@@ -19,6 +20,17 @@ WRONG = [
     "class A:\n    def __hash__(self):\n        return 1", "class A:\n    x = len([])", "def f(x):\n    return x.encode",
     "def f(x):\n    return '" + "a" * 120 + "'", "def f(x):\n" + "    x = x\n" * 40, "x = 1\nx = 2", "def f(x):\n\treturn x",
     "def f(x):\n    return x.items()", "def f(x):\n    yield x\n\n\ndef g(x):\n    return f(x)", "def f(x):\n    kind = 'type'",
+    "class A:\n    def f(self):\n        return super().rows", "class A:\n    def __eq__(self, other):\n        return super().__eq__(other)",
+]
+
+CHANGING = [
+    "class A:\n    def __eq__(self, other):\n        self.x = 1\n        return True",
+    "class A:\n    def __add__(self, other):\n        f(other)\n        return self\n\n\ndef f(x):\n    x.append(1)",
+    "class A:\n    def __len__(self):\n        return self.f()\n\n    def f(self):\n        self.x[0] = 1\n        return 1",
+    "class A:\n    @property\n    def x(self):\n        rows = self.rows\n        rows.pop()\n        return 1",
+    "class A:\n    def __add__(self, other):\n        return B(other)\n\n\nclass B:\n    def __init__(self, x):\n        x.clear()",
+    "class A:\n    def __add__(self, other):\n        return f(other)\n\n\ndef f(x):\n    return x(1)",
+    "class A:\n    def __bool__(self):\n        total = 0\n        total += f(self)\n        return total > 0\n\n\ndef f(x):\n    return 1",
 ]
 
 
@@ -35,6 +47,13 @@ class LanguageTest(unittest.TestCase):
 
     def test_the_program(self):
         self.assertEqual(breaches(texts()), [])
+
+    def test_operators_and_properties_change_nothing(self):
+        self.assertEqual(changes(texts()), [])
+        for text in CHANGING:
+            with self.subTest(text):
+                self.assertEqual(len(changes({"one": text})), 1)
+        self.assertEqual(changes({"one": "class A:\n    def __add__(self, other):\n        x = []\n        x.append(1)\n        return x"}), [])
 
     def test_the_folder(self):
         self.assertTrue(all(name == "__pycache__" or name.endswith(".py") for name in os.listdir(FOLDER)))
