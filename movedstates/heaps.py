@@ -1,25 +1,25 @@
 """Heaps: what is kept of letters without their numbers."""
 
 from movedstates.checks import checked_kind, refuse_other
-from movedstates.kinds import kind_named
 from movedstates.sessions import closed_by
 
 
 class Heap:
     """Blocks of letters, put one behind another; it never changes."""
 
-    def __init__(self, kind, gap, number, top, blocks):
-        self.kind = kind
+    def __init__(self, named, gap, number, top, blocks):
+        self.kind = named.NAME
         self.gap = gap
         self.number = number
         self.blocks = blocks
+        self._named = named
         self._top = top
 
     @classmethod
     def empty(cls, kind, *, gap):
         """The empty heap."""
-        checked_kind(kind, gap)
-        return cls(kind, gap, 0, 0, ())
+        named = checked_kind(kind, gap)
+        return cls(named, gap, 0, 0, ())
 
     @property
     def top(self):
@@ -38,14 +38,13 @@ class Heap:
 
     def put(self, number, time, value):
         """The heap with the letter put into it."""
-        named = kind_named(self.kind)
-        block = (time, time, named.plain((value,)))
-        return self + Heap(self.kind, self.gap, 1, number + 1, (block,))
+        block = (time, time, self._named.plain((value,)))
+        return self + Heap(self._named, self.gap, 1, number + 1, (block,))
 
     def __add__(self, other):
         refuse_other(self, other)
-        blocks = clustered(self.kind, self.gap, self.blocks, other.blocks)
-        return Heap(self.kind, self.gap, self.number + other.number, max(self._top, other._top), blocks)
+        blocks = clustered(self._named, self.gap, self.blocks, other.blocks)
+        return Heap(self._named, self.gap, self.number + other.number, max(self._top, other._top), blocks)
 
     def __eq__(self, other):
         return (isinstance(other, Heap) and self.kind == other.kind and self.gap == other.gap
@@ -54,7 +53,7 @@ class Heap:
     def tell(self, mark):
         """The told blocks, in order, and the heap that is left."""
         told = list(self.blocks[:self._told_count(mark)])
-        return told, Heap(self.kind, self.gap, self.number, self._top, self.blocks[len(told):])
+        return told, Heap(self._named, self.gap, self.number, self._top, self.blocks[len(told):])
 
     def _told_count(self, mark):
         """How many blocks are told at the mark."""
@@ -66,9 +65,8 @@ class Heap:
         return len(self.blocks) - 1
 
 
-def clustered(kind, gap, ahead, behind):
+def clustered(named, gap, ahead, behind):
     """The blocks of two heaps that are put one behind the other."""
-    named = kind_named(kind)
     visited = sorted([(block[0], 0, block) for block in ahead] + [(block[0], 1, block) for block in behind])
     clusters = []
     for first, place, block in visited:

@@ -12,22 +12,22 @@ def walk(crew, scheme, ranking, yard):
     """For each worker of the lineup, in order, whether the scheme takes it."""
     refuse_ranking(crew, ranking)
     refuse_yard(crew, yard)
-    steps = []
+    walked = []
     seen = []
     for worker in present(ranking, yard):
         make = crew.make_of(worker)
-        steps.append((worker, scheme.takes(make, seen)))
+        walked.append((worker, scheme.takes(make, seen)))
         seen.append(make)
-    return steps
+    return walked
 
 
 def holder(crew, scheme, ranking, yard):
     """The first worker of the lineup that is taken; the first one of all if none is."""
-    steps = walk(crew, scheme, ranking, yard)
-    for worker, taken in steps:
+    walked = walk(crew, scheme, ranking, yard)
+    for worker, taken in walked:
         if taken:
             return worker
-    return steps[0][0]
+    return walked[0][0]
 
 
 def holders(crew, scheme, ranking, yards):

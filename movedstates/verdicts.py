@@ -116,8 +116,8 @@ def returns(yards, held):
 
 def moves_needlessly(yards, held):
     """Whether a ranking with these holders has a needless move."""
-    steps = list(zip(yards, held))
-    return any([is_needless(one, other) for one, other in zip(steps, steps[1:])])
+    pairs = list(zip(yards, held))
+    return any([is_needless(one, other) for one, other in zip(pairs, pairs[1:])])
 
 
 def is_needless(one, other):

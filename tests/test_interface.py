@@ -41,7 +41,14 @@ FUNCTIONS = {
                  "start_node(yards)", "next_node(crew, scheme, yards, node, worker)", "settled(node)"],
     "tallies": ["tally(crew, scheme, yards)", "moved_counts(crew, scheme, before, after)"],
     "messages": ["newer(one, other)", "mark_for(watermark, key)"],
+    "accounts": ["account(net, key)", "front(net, key)", "owed(net, key)", "carriers(net, key)"],
+    "runs": ["run(net, deeds, weaving=())"],
+    "sound": ["why_not(setting)", "sound(setting)", "sound_settings(crew, scheme, yards)"],
+    "badruns": ["bad_run(setting)"],
+    "judging": ["judged(setting, rankings, deeds, weaving=(), *, gap)"],
+    "records": ["record_worker(net, worker)", "record_gate(net)", "first_record(net)"],
 }
+NET_PARAMETERS = "gap, crew, scheme, rankings, yard, sheet=('place', 'forward', False), again=False)"
 METHODS = {
     "kinds": {
         "Kind": ["keep(self, word)", "plain(self, word)"], "BagKind": ["keep(self, word)"], "SetKind": ["keep(self, word)"],
@@ -71,6 +78,13 @@ METHODS = {
                            "twin(self)", "is_holder(self, key)", "receive(self, message)"]},
     "counters": {"Counter": ["__init__(self, worker, kind, routing, *, gap, yard, sheet=('count', 'forward', False))",
                              "twin(self)", "is_holder(self, key)", "receive(self, message)"]},
+    "nets": {"Net": ["__init__(self, kind, *, " + NET_PARAMETERS, "__len__(self)", "__iter__(self)", "take(self, deed)",
+                     "arrive(self, place, *, stays=False)", "split_at(self, place)", "settle(self)", "twin(self)"]},
+    "runs": {"Run": ["__init__(self, net, deeds)", "steps(self)", "step(self, choice)", "follow(self, weaving)", "end(self)"]},
+    "sheets": {"Setting": ["__init__(self, kind, crew, scheme, yards, *, sheet=('place', 'forward', False), again=False)",
+                           "net_for(self, rankings, *, gap)", "yard_deeds(self)", "fits_tape(self, deeds)", "__eq__(self, other)"]},
+    "judging": {"Judgement": ["missing(self)", "extra(self)", "parted(self)"]},
+    "records": {"Record": [], "GateRecord": []},
 }
 CLASS_METHODS = {
     "holdings": {"Holding": ["empty(kind, *, gap, base=0)", "of(kind, letters, *, gap, base=0)",
@@ -79,11 +93,13 @@ CLASS_METHODS = {
 }
 PROPERTIES = {"tables": {"Table": ["size"]}, "gates": {"Gate": ["floor", "finished"]}, "boards": {"Board": ["repeats"]},
               "holdings": {"Holding": ["top", "size"]}, "heaps": {"Heap": ["top", "size", "whole"]},
-              "verdicts": {"Verdict": ["holds"]}}
+              "verdicts": {"Verdict": ["holds"]}, "nets": {"Net": ["newest"]}, "runs": {"Run": ["done"]},
+              "judging": {"Judgement": ["agrees"]}}
 # The modules in the order of the interface.
 ORDER = ["errors", "tokens", "kinds", "tables", "witnesses", "gates", "sessions", "boards", "tapes", "plainruns", "rows", "blocks",
          "possibles", "holdings", "ripening", "partings", "narrowing", "segments", "overlaps", "unions", "splits", "shuffles",
-         "repeats", "heaps", "crews", "schemes", "holders", "verdicts", "tallies", "messages", "placers", "counters"]
+         "repeats", "heaps", "crews", "schemes", "holders", "verdicts", "tallies", "messages", "placers", "counters",
+         "nets", "accounts", "runs", "sheets", "sound", "badruns", "judging", "records"]
 # What is not in the interface stands ahead of these.
 HELPERS = {"checks": "sessions", "holdingtexts": "holdings"}
 
