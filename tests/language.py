@@ -23,7 +23,7 @@ WORDS = re.compile(r"\b(type|typing|typing_extensions|enum|Enum|IntEnum|StrEnum|
                    r"namedtuple|NamedTuple|TypedDict|TYPE_CHECKING|abstractmethod|_wall|_WallAttr)\b|dataclass|overload|contextmanager")
 BAD_STARTS = ("_wall", "_pe_", "_dcw_", "_enum_", "_cm_", "_twin_re_", "_lay_", "_law_", "_stub_", "_sre", "_WallAttr")
 BAD_NAMES = re.compile(r"(_cold|_tuplegetter|_outside|_record|_written_out|_member_names)[0-9_]*")
-NOT_ALLOWED = (ast.Global, ast.Nonlocal, ast.AsyncFunctionDef, ast.AsyncFor, ast.AsyncWith, ast.Await, ast.Match, ast.With, ast.Div,
+NOT_ALLOWED = (ast.Global, ast.Nonlocal, ast.AsyncFunctionDef, ast.AsyncFor, ast.AsyncWith, ast.Await, ast.Match, ast.Div,
                ast.Import, ast.MatMult, ast.AnnAssign, ast.NamedExpr, ast.Set)
 SPOT_CALLS = {"zip", "enumerate", "reversed", "range"}
 SPOT_METHODS = {"items", "keys", "values"}
@@ -113,6 +113,8 @@ class Reader:
     def statement(self, node):
         if isinstance(node, NOT_ALLOWED):
             self.say("L6", node, type(node).__name__)
+        if isinstance(node, ast.With):
+            self.with_statement(node)
         if isinstance(node, ast.Try) and node.finalbody:
             self.say("L6", node, "finally")
         if isinstance(node, ast.ExceptHandler):
@@ -133,6 +135,20 @@ class Reader:
             self.say("L27", node, "a power")
         if isinstance(node, (ast.GeneratorExp,)):
             self.say("L7", node, "a generator expression")
+
+    def with_statement(self, node):
+        for item in node.items:
+            given = isinstance(item.context_expr, (ast.Call, ast.Name, ast.Attribute))
+            if not given or not isinstance(item.optional_vars, (ast.Name, type(None))):
+                self.say("L6", node, "a with statement")
+        if any(isinstance(one, (ast.Yield, ast.YieldFrom)) for one in ast.walk(node)):
+            self.say("L23", node, "a yield under a with statement")
+
+    def exit_row(self, node):
+        """Rows of __exit__ assign names, attributes and literals to attributes, and do nothing else."""
+        attribute = isinstance(node, ast.Assign) and len(node.targets) == 1 and isinstance(node.targets[0], ast.Attribute)
+        if not isinstance(node, ast.Pass) and not (attribute and isinstance(node.value, (ast.Name, ast.Attribute, ast.Constant))):
+            self.say("L6", node, "a row of __exit__")
 
     def text_value(self, node):
         if isinstance(node, ast.Constant) and isinstance(node.value, str):
@@ -264,6 +280,11 @@ class Reader:
     def double(self, node):
         body = node.body[1:] if is_text(node.body[0]) else node.body
         only = ast.unparse(body[0]) if len(body) == 1 else ""
+        if node.name == "__exit__":
+            for row in body:
+                self.exit_row(row)
+        if node.name in ("__enter__", "__exit__") and len(node.args.args) != {"__enter__": 1, "__exit__": 4}[node.name]:
+            self.say("L6", node, node.name)
         if node.name == "__iter__" and not re.fullmatch(r"return iter\(self\.\w+\)", only):
             self.say("L5", node, node.name)
         if node.name == "__len__" and not re.fullmatch(r"return len\(self\.\w+\)", only):

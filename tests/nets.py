@@ -18,6 +18,9 @@ from tests.owners import MAKES, random_scheme, random_yard
 from tests.workers import WorkerByTheWords, state
 
 SHEETS = list(itertools.product(("place", "count"), ("forward", "drop"), (False, True)))
+BAD_SHEETS = [("place", "forward", 0), ("place", "forward", 1), ("place", "forward"), ("place", "forward", False, False), (),
+              ["place", "forward", False], ("forward", "place", False), ("Place", "forward", False), ("count", "drops", True),
+              ("count", "forward", None), (0, 0, 0), None, 0, "place", "place forward False"]
 ALL = list(itertools.product(KIND_NAMES, SHEETS, (False, True)))
 
 

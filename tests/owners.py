@@ -35,6 +35,10 @@ def random_scheme(random):
                                                 for _ in range(random.choice(many)))) for _ in range(random.randint(0, 3))])
 
 
+def random_loads(random, crew, most=6):
+    return [(random.sample(range(len(crew)), len(crew)), random.choice((0, 1, 2, 5, 10 ** 20))) for _ in range(random.randint(0, most))]
+
+
 def holder_by_the_words(crew, scheme, ranking, yard):
     lineup = [worker for worker in ranking if worker in yard]
     for at, worker in enumerate(lineup):

@@ -47,6 +47,12 @@ FUNCTIONS = {
     "badruns": ["bad_run(setting)"],
     "judging": ["judged(setting, rankings, deeds, weaving=(), *, gap)"],
     "records": ["record_worker(net, worker)", "record_gate(net)", "first_record(net)"],
+    "cuts": ["resume(cut)"], "loose": ["lacking(gate_record, records)", "loose(net, gate_record, records, board)"],
+    "falls": ["fall(net, worker, record=None)"],
+    "costs": ["list_cost(crew, scheme, loads, yards)", "step_cost(crew, scheme, loads, before, after)", "loads_of(net)",
+              "moved_keys(net, yard)"],
+    "plans": ["cheapest(crew, scheme, loads, start, goal, *, most=1, least=1)"],
+    "trials": ["tried(desk, deeds)"], "listings": ["plan_listing(crew, plan)", "desk_listing(desk)"],
 }
 NET_PARAMETERS = "gap, crew, scheme, rankings, yard, sheet=('place', 'forward', False), again=False)"
 METHODS = {
@@ -85,21 +91,32 @@ METHODS = {
                            "net_for(self, rankings, *, gap)", "yard_deeds(self)", "fits_tape(self, deeds)", "__eq__(self, other)"]},
     "judging": {"Judgement": ["missing(self)", "extra(self)", "parted(self)"]},
     "records": {"Record": [], "GateRecord": []},
+    "cuts": {"CutNet": ["__init__(self, kind, *, " + NET_PARAMETERS, "take(self, deed)", "arrive(self, place, *, stays=False)",
+                        "twin(self)", "begin_cut(self)"], "Cut": []},
+    "plans": {"Plan": []},
+    "trials": {"Trial": ["__enter__(self)", "__exit__(self, kind, value, trace)"]},
+    "desks": {"Desk": ["__init__(self, kind, *, " + NET_PARAMETERS, "twin(self)", "event(self, key, time, value)",
+                       "raise_floor(self, time)", "resize(self, yard)", "finish(self)", "arrive(self, choice, *, stays=False)",
+                       "settle(self)", "cut(self)", "back(self, number)", "fall(self, worker)", "trial(self)", "take(self, deed)",
+                       "reports(self)", "missing(self)", "extra(self)", "account_of(self, key)", "cost_of(self, yard)",
+                       "plan_to(self, yard, *, most=1, least=1)"]},
 }
 CLASS_METHODS = {
     "holdings": {"Holding": ["empty(kind, *, gap, base=0)", "of(kind, letters, *, gap, base=0)",
                              "made(kind, blocks, *, gap, base=0)", "read(text)"]},
     "heaps": {"Heap": ["empty(kind, *, gap)"]}, "crews": {"Crew": ["read(text)"]}, "schemes": {"Scheme": ["read(text)"]},
+    "desks": {"Desk": ["over(net, mirror)"]},
 }
 PROPERTIES = {"tables": {"Table": ["size"]}, "gates": {"Gate": ["floor", "finished"]}, "boards": {"Board": ["repeats"]},
               "holdings": {"Holding": ["top", "size"]}, "heaps": {"Heap": ["top", "size", "whole"]},
               "verdicts": {"Verdict": ["holds"]}, "nets": {"Net": ["newest"]}, "runs": {"Run": ["done"]},
-              "judging": {"Judgement": ["agrees"]}}
-# The modules in the order of the interface.
+              "judging": {"Judgement": ["agrees"]}, "cuts": {"CutNet": ["cut_open"]}}
+# The modules in the order of the interface, but for trials: Desk.trial makes one, so these stand ahead of desks.
 ORDER = ["errors", "tokens", "kinds", "tables", "witnesses", "gates", "sessions", "boards", "tapes", "plainruns", "rows", "blocks",
          "possibles", "holdings", "ripening", "partings", "narrowing", "segments", "overlaps", "unions", "splits", "shuffles",
          "repeats", "heaps", "crews", "schemes", "holders", "verdicts", "tallies", "messages", "placers", "counters",
-         "nets", "accounts", "runs", "sheets", "sound", "badruns", "judging", "records"]
+         "nets", "accounts", "runs", "sheets", "sound", "badruns", "judging", "records",
+         "cuts", "loose", "falls", "costs", "plans", "trials", "desks", "listings"]
 # What is not in the interface stands ahead of these.
 HELPERS = {"checks": "sessions", "holdingtexts": "holdings"}
 

@@ -20,6 +20,10 @@ WRONG = [
     "class A:\n    def __hash__(self):\n        return 1", "class A:\n    x = len([])", "def f(x):\n    return x.encode",
     "def f(x):\n    return '" + "a" * 120 + "'", "def f(x):\n" + "    x = x\n" * 40, "x = 1\nx = 2", "def f(x):\n\treturn x",
     "def f(x):\n    return x.items()", "def f(x):\n    yield x\n\n\ndef g(x):\n    return f(x)", "def f(x):\n    kind = 'type'",
+    "def f(x):\n    with x[0] as y:\n        return y", "def f(x):\n    with x as y.z:\n        return y",
+    "class A:\n    def __exit__(self, kind, value, trace):\n        self.f()", "class A:\n    def __exit__(self):\n        self.x = 1",
+    "class A:\n    def __exit__(self, kind, value, trace):\n        x = self.x", "class A:\n    def __enter__(self, x):\n        return x",
+    "class A:\n    def __exit__(self, kind, value, trace):\n        self.x = f(1)",
     "class A:\n    def f(self):\n        return super().rows", "class A:\n    def __eq__(self, other):\n        return super().__eq__(other)",
 ]
 

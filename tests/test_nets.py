@@ -17,7 +17,7 @@ from movedstates.placers import Placer
 from movedstates.schemes import Scheme
 from movedstates.splits import parts_of
 from tests.helpers import NOT_KINDS
-from tests.nets import ALL, SHEETS, NetByTheWords, random_net, random_tape, seen_message, seen_net, without_classes
+from tests.nets import ALL, BAD_SHEETS, SHEETS, NetByTheWords, random_net, random_tape, seen_message, seen_net, without_classes
 from tests.owners import bad_rankings, bad_yards, random_yard
 from tests.workers import state
 
@@ -25,9 +25,7 @@ CREW = Crew([("x", "m"), ("y", "m"), ("z", "n")])
 SCHEME = Scheme([])
 # By (0,) all keys are held by worker 0, by (0, 1) a and c by worker 1.
 RANKINGS = {"a": [1, 0, 2], "b": [0, 1, 2], "c": (1, 0, 2)}
-BAD_SHEETS = [("place", "forward", 0), ("place", "forward", 1), ("place", "forward"), ("place", "forward", False, False), (),
-              ["place", "forward", False], ("forward", "place", False), ("Place", "forward", False), ("count", "drops", True),
-              ("count", "forward", None), (0, 0, 0), None, 0, "place", "place forward False"]
+
 
 
 def net_of(kind="list", *, gap=2, yard=(0,), sheet=("place", "forward", False), again=False, rankings=RANKINGS, crew=CREW):

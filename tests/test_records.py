@@ -4,45 +4,19 @@ import random
 import unittest
 
 from movedstates.crews import Crew
+from movedstates.cuts import CutNet
 from movedstates.holdings import Holding
-from movedstates.nets import Net
 from movedstates.records import GateRecord, Record, first_record, record_gate, record_worker
 from movedstates.schemes import Scheme
-from tests.nets import random_net, random_tape, seen_gate
+from tests.cutnets import random_cut_net, seen_gate_record, seen_record
+from tests.nets import random_tape, seen_gate
 
 CREW = Crew([("x", "m"), ("y", "m")])
 RANKINGS = {"a": [1, 0], "b": [0, 1]}
 
 
-class CountedNet(Net):
-    """A net that knows what was told and taken, as records ask for it."""
-
-    def __init__(self, kind, **more):
-        super().__init__(kind, **more)
-        self.told_by, self.taken = [[] for _ in self.workers], 0
-
-    def take(self, deed):
-        sent = super().take(deed)
-        self.taken += 1
-        return sent
-
-    def arrive(self, place, *, stays=False):
-        to = self.underway[place].to
-        told = super().arrive(place, stays=stays)
-        self.told_by[to].extend(told)
-        return told
-
-
-def seen_record(record):
-    return [record.number, record.yard, record.watermark, dict(record.live), dict(record.kept), list(record.told)]
-
-
-def seen_gate_record(record):
-    return [seen_gate(record.gate), list(record.yards), record.taken]
-
-
 def made_net(kind="list", sheet=("place", "forward", True)):
-    return CountedNet(kind, gap=2, crew=CREW, scheme=Scheme([]), rankings=RANKINGS, yard=(0,), sheet=sheet)
+    return CutNet(kind, gap=2, crew=CREW, scheme=Scheme([]), rankings=RANKINGS, yard=(0,), sheet=sheet)
 
 
 class WorkerTest(unittest.TestCase):
@@ -64,7 +38,7 @@ class WorkerTest(unittest.TestCase):
     def test_a_record_stays_as_it_was(self):
         source = random.Random(830)
         for _ in range(60):
-            net = random_net(source, made=CountedNet)
+            net = random_cut_net(source)
             self.go_on(source, net)
             records = [record_worker(net, worker) for worker in range(len(net.workers))]
             gate = record_gate(net)

@@ -10,9 +10,8 @@ from movedstates.nets import Net
 from movedstates.schemes import Scheme
 from movedstates.sheets import SHEETS, Setting
 from tests.helpers import NOT_KINDS, EqualToAll
-from tests.nets import seen_net
+from tests.nets import BAD_SHEETS, seen_net
 from tests.owners import bad_rankings, bad_yards
-from tests.test_nets import BAD_SHEETS
 
 CREW = Crew([("x", "m"), ("y", "m"), ("z", "n")])
 SCHEME = Scheme.read("take make n")
