@@ -42,7 +42,8 @@ class Run:
 
     def follow(self, weaving):
         """Does the step of each choice in turn."""
-        for choice in weaving:
+        # It may be the weaving of this very run, which grows with each step.
+        for choice in list(weaving):
             self.step(choice)
 
     def end(self):

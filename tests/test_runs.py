@@ -104,6 +104,12 @@ class StepTest(unittest.TestCase):
             one.follow([1, 2, 3])
             self.assertEqual([one.weaving, seen_net(one.net), list(one.steps())], [[], before, []])
 
+    def test_its_own_weaving_can_be_followed_once_more(self):
+        one = Run(net_of(), TAPE)
+        one.follow([0, 1])
+        one.follow(one.weaving)
+        self.assertEqual([one.weaving, one.at, len(one.net)], [[0, 1, 0, 1], 2, 2])
+
     def test_done(self):
         one = Run(net_of(), TAPE[:1])
         self.assertIs(one.done, False)
