@@ -68,12 +68,12 @@ class Net:
         outcome = worker.receive(message)
         if not stays:
             del self.underway[place]
-        for to, body, hops in outcome.sends:
-            cut_number = self._cut_number_at(at)
-            self.underway.append(Message(to, worker.number, worker.yard, body, hops=hops, cut_number=cut_number))
-            # Whatever is not sent on is a holding that is sent for the first time.
-            if hops == 0:
-                self.sent = self.sent + body[2].size
+        cut_number = self._cut_number_at(at)
+        messages = [Message(to, worker.number, worker.yard, body, hops=hops, cut_number=cut_number)
+                    for to, body, hops in outcome.sends]
+        self.underway.extend(messages)
+        # Whatever is not sent on is a holding that is sent for the first time.
+        self.sent = self.sent + sum([message.body[2].size for message in messages if message.hops == 0])
         for report in outcome.told:
             self.board.take(report)
         self.unclear.extend([(at, key) for key in outcome.unclear])

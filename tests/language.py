@@ -8,6 +8,8 @@ import ast
 import builtins
 import re
 
+from tests.purity import MODIFIERS
+
 PACKAGE = "movedstates"
 BUILTINS = set("""len range enumerate zip min max sum abs sorted reversed int str bool list tuple dict set isinstance ord repr
 any all divmod iter super property staticmethod classmethod ValueError NotImplemented""".split())
@@ -50,7 +52,8 @@ class Reader:
         self.characters()
         self.module_level()
         for node in ast.walk(self.tree):
-            for look in (self.statement, self.name_used, self.attribute, self.call, self.on_the_spot, self.sets, self.text_value):
+            for look in (self.statement, self.name_used, self.attribute, self.call, self.on_the_spot, self.sets, self.text_value,
+                         self.walk):
                 look(node)
             if isinstance(node, ast.FunctionDef):
                 self.function(node)
@@ -242,6 +245,20 @@ class Reader:
         if not (taken or looped or kept):
             self.say("L23", node, "not iterated at once")
 
+    def walk(self, node):
+        """What is walked is not changed meanwhile. Of attributes and items none is: two of them may be one list."""
+        if isinstance(node, ast.For):
+            heads, rows = [node.iter], node.body
+        elif isinstance(node, (ast.ListComp, ast.SetComp, ast.DictComp)):
+            heads, rows = [one.iter for one in node.generators], [node]
+        else:
+            return
+        walked = [one for head in heads for one in what_is_walked(head)]
+        for one in what_is_changed(rows):
+            if any(ast.unparse(one) == ast.unparse(other) or not isinstance(one, ast.Name) and not isinstance(other, ast.Name)
+                   for other in walked):
+                self.say("L23", one, f"{ast.unparse(one)} is changed in a loop")
+
     def sets(self, node):
         made = isinstance(node, ast.SetComp) or (
             isinstance(node, ast.Call) and isinstance(node.func, ast.Name) and node.func.id in ("set", "frozenset"))
@@ -314,6 +331,37 @@ class Reader:
         stored = {one.attr for one in ast.walk(node) if isinstance(one, ast.Attribute) and isinstance(one.ctx, ast.Store)}
         for name in stored & set(names):
             self.say("L18", node, f"{name} is a method and an attribute")
+
+
+def what_is_walked(head):
+    """The names, attributes and items that a loop with this head walks."""
+    if isinstance(head, (ast.Name, ast.Attribute, ast.Subscript)):
+        return [head]
+    parts = []
+    if isinstance(head, ast.IfExp):
+        parts = [head.body, head.orelse]
+    if isinstance(head, ast.BoolOp):
+        parts = head.values
+    if isinstance(head, ast.Call) and isinstance(head.func, ast.Name) and head.func.id in SPOT_CALLS - {"range"}:
+        parts = head.args
+    if isinstance(head, ast.Call) and isinstance(head.func, ast.Attribute) and head.func.attr in SPOT_METHODS:
+        parts = [head.func.value]
+    return [one for part in parts for one in what_is_walked(part)]
+
+
+def what_is_changed(rows):
+    """The names, attributes and items that these rows change."""
+    found = []
+    for node in [one for row in rows for one in ast.walk(row)]:
+        if isinstance(node, ast.Call) and isinstance(node.func, ast.Attribute) and node.func.attr in MODIFIERS:
+            found.append(node.func.value)
+        if isinstance(node, ast.Subscript) and isinstance(node.ctx, (ast.Store, ast.Del)):
+            found.append(node.value)
+        if isinstance(node, ast.Attribute) and isinstance(node.ctx, (ast.Store, ast.Del)):
+            found.append(node)
+        if isinstance(node, ast.AugAssign) and isinstance(node.target, ast.Name):
+            found.append(node.target)
+    return found
 
 
 def is_builtin(name):

@@ -27,6 +27,19 @@ WRONG = [
     "class A:\n    def f(self):\n        return super().rows", "class A:\n    def __eq__(self, other):\n        return super().__eq__(other)",
 ]
 
+WALKED = [
+    "for y in x:\n        x.append(y)", "for y in x.rows:\n        x.rows.pop()", "for at, y in enumerate(x):\n        x[at] = y",
+    "for y, z in x.items():\n        del x[y]", "for y in [] if z else x:\n        x.clear()", "for y in x or z:\n        z += [y]",
+    "for y in x.rows:\n        x.rows = [y]", "for y in x.rows:\n        z.others.append(y)", "for y in x[0]:\n        x[1].append(y)",
+    "for y in z:\n        for y in x:\n            z.append(y)", "return [x.pop() for y in x]", "return {y: x.rows.pop() for y in z.rows}",
+]
+
+NOT_WALKED = [
+    "for y in list(x):\n        x.append(y)", "for y in sorted(x.rows):\n        x.rows.append(y)", "for y in x:\n        z.append(y)",
+    "for y in x.rows:\n        z.append(y)", "for y in range(len(x)):\n        x[y] = 0", "x.rows.extend([y for y in z.rows])",
+    "for y in x:\n        return y\n    x.append(z)",
+]
+
 CHANGING = [
     "class A:\n    def __eq__(self, other):\n        self.x = 1\n        return True",
     "class A:\n    def __add__(self, other):\n        f(other)\n        return self\n\n\ndef f(x):\n    x.append(1)",
@@ -67,6 +80,12 @@ class LanguageTest(unittest.TestCase):
         for text in WRONG:
             with self.subTest(text):
                 self.assertNotEqual(breaches({"one": text + "\n"}), [])
+
+    def test_changes_of_what_is_walked_are_found(self):
+        for row in WALKED + NOT_WALKED:
+            with self.subTest(row):
+                found = breaches({"one": f"def f(x, z):\n    {row}\n"})
+                self.assertEqual([what[:3] for what in found], ["L23"] if row in WALKED else [])
 
     def test_circles_are_found(self):
         one, other = "from movedstates.other import f\n\n\ndef g():\n    return f()\n", (
